@@ -342,25 +342,6 @@ func TestEqualBytes(t *testing.T) {
 	}
 }
 
-// keepsBytes is keepsInts for bytes.
-func keepsBytes(t *testing.T, name string, b []byte, f func([]byte) []byte) {
-	t.Helper()
-	arg, check := guarded(t, name, b, 222)
-	first := f(arg)
-	check()
-	want := slices.Clone(first)
-	scribble(first, 111)
-	check()
-	second := f(arg)
-	if !bytes.Equal(second, want) {
-		t.Errorf("%s: called again, %v, not %v", name, second, want)
-	}
-	scribble(arg, 99)
-	if !bytes.Equal(second, want) {
-		t.Errorf("%s: the result changed with the argument", name)
-	}
-}
-
 func TestEncodingKeepsArguments(t *testing.T) {
 	for _, b := range [][]byte{{}, {2}, {2, 7, 8}, {0, 1}, {128, 0}} {
 		for _, n := range []int{5, 300, -1, mostValue + 1} {

@@ -39,23 +39,35 @@ func scribble[T any](l []T, mark T) {
 	}
 }
 
-// keepsInts checks that a function from numbers to numbers leaves its argument as it was and shares no memory with it.
-func keepsInts(t *testing.T, name string, l []int, f func([]int) []int) {
+// keeps checks that a function leaves its argument as it was and shares no memory with it.
+func keeps[T comparable](t *testing.T, name string, l []T, mark T, f func([]T) []T) {
 	t.Helper()
-	arg, check := guardInts(t, name, l)
+	arg, check := guarded(t, name, l, mark)
 	first := f(arg)
 	check()
 	want := slices.Clone(first)
-	scribble(first, -555)
+	scribble(first, mark)
 	check()
 	second := f(arg)
 	if !slices.Equal(second, want) {
 		t.Errorf("%s: called again, %v, not %v", name, second, want)
 	}
-	scribble(arg, -333)
+	scribble(arg, mark)
 	if !slices.Equal(second, want) {
 		t.Errorf("%s: the result changed with the argument", name)
 	}
+}
+
+// keepsInts is keeps for numbers.
+func keepsInts(t *testing.T, name string, l []int, f func([]int) []int) {
+	t.Helper()
+	keeps(t, name, l, -777, f)
+}
+
+// keepsBytes is keeps for bytes.
+func keepsBytes(t *testing.T, name string, b []byte, f func([]byte) []byte) {
+	t.Helper()
+	keeps(t, name, b, 222, f)
 }
 
 // keepsRows is keepsInts for a list of lists as the argument, and for rows of a result.
