@@ -37,18 +37,26 @@ func slowOrder(points []int) []int {
 	return order
 }
 
+func slowSettled(g impl.Game) []int {
+	if !slowIsGame(g) {
+		return []int{}
+	}
+	points := slowLeftPoints(g)
+	settled := make([]int, len(points))
+	if winner := slowWinner(g); winner >= 0 {
+		for who, n := range points {
+			settled[who] = -n
+		}
+		settled[winner] = sumOf(points)
+	}
+	return settled
+}
+
 func checkResults(t *testing.T, g impl.Game) {
 	t.Helper()
 	points := slowLeftPoints(g)
-	settled, order, loser := []int{}, []int{}, -1
+	settled, order, loser := slowSettled(g), []int{}, -1
 	if slowIsGame(g) {
-		settled = make([]int, len(points))
-		if winner := slowWinner(g); winner >= 0 {
-			for who, n := range points {
-				settled[who] = -n
-			}
-			settled[winner] = sumOf(points)
-		}
 		order = slowOrder(points)
 		loser = slices.Index(points, slices.Max(points))
 	}
