@@ -296,6 +296,7 @@ func TestEqualTables(t *testing.T) {
 		f(&other)
 		tables = append(tables, other)
 	}
+	change(func(x *impl.Table) { x.On = false })
 	change(func(x *impl.Table) { x.Rules.Wild = nil })
 	change(func(x *impl.Table) { x.Seals[0]++ })
 	change(func(x *impl.Table) { x.Seals[0] += 1 << 32 })

@@ -334,6 +334,18 @@ func TestStepRules(t *testing.T) {
 	}
 }
 
+// allSteps has each kind of step, with the seeds of an opening and a card.
+func allSteps(o opening, card int) map[string]func(x impl.Table) (impl.Table, bool) {
+	return map[string]func(x impl.Table) (impl.Table, bool){
+		"StepSeal":   func(x impl.Table) (impl.Table, bool) { return impl.StepSeal(x, 5) },
+		"StepDeal":   func(x impl.Table) (impl.Table, bool) { return impl.StepDeal(x, o.seeds, o.salts) },
+		"StepPlay":   func(x impl.Table) (impl.Table, bool) { return impl.StepPlay(x, card) },
+		"StepTake":   impl.StepTake,
+		"StepSettle": impl.StepSettle,
+		"StepRules":  func(x impl.Table) (impl.Table, bool) { return impl.StepRules(x, easyText) },
+	}
+}
+
 func TestStepsOfNoTable(t *testing.T) {
 	random := numbers{433}
 	o := random.someOpening(3)
@@ -341,15 +353,8 @@ func TestStepsOfNoTable(t *testing.T) {
 	sealed.Seals = o.seals
 	ended := tableAtEnd(easyTable(), nil)
 	for i, x := range slices.Concat(changedTables(easyTable()), changedTables(sealed), changedTables(ended)) {
-		for name, f := range map[string]func() (impl.Table, bool){
-			"StepSeal":   func() (impl.Table, bool) { return impl.StepSeal(x, 5) },
-			"StepDeal":   func() (impl.Table, bool) { return impl.StepDeal(x, o.seeds, o.salts) },
-			"StepPlay":   func() (impl.Table, bool) { return impl.StepPlay(x, 5) },
-			"StepTake":   func() (impl.Table, bool) { return impl.StepTake(x) },
-			"StepSettle": func() (impl.Table, bool) { return impl.StepSettle(x) },
-			"StepRules":  func() (impl.Table, bool) { return impl.StepRules(x, easyText) },
-		} {
-			if got, ok := f(); ok || !sameTables(got, x) {
+		for name, f := range allSteps(o, 5) {
+			if got, ok := f(x); ok || !sameTables(got, x) {
 				t.Errorf("%d: %s of %v is %v, %t", i, name, x, got, ok)
 			}
 		}
@@ -446,15 +451,7 @@ func TestStepsKeepArguments(t *testing.T) {
 	unsealed := impl.Table{Rules: x.Rules, Seals: x.Seals[:2], Sheet: x.Sheet}
 	tables := []impl.Table{{}, x, sealed, unsealed, random.played(x, 9), tableAtEnd(x, nil)}
 	for _, x := range append(tables, changedTables(easyTable())[:50]...) {
-		card := impl.ChoiceOf(x.Game, 0)
-		for name, f := range map[string]func(x impl.Table) (impl.Table, bool){
-			"StepSeal":   func(x impl.Table) (impl.Table, bool) { return impl.StepSeal(x, 5) },
-			"StepDeal":   func(x impl.Table) (impl.Table, bool) { return impl.StepDeal(x, o.seeds, o.salts) },
-			"StepPlay":   func(x impl.Table) (impl.Table, bool) { return impl.StepPlay(x, card) },
-			"StepTake":   func(x impl.Table) (impl.Table, bool) { return impl.StepTake(x) },
-			"StepSettle": func(x impl.Table) (impl.Table, bool) { return impl.StepSettle(x) },
-			"StepRules":  func(x impl.Table) (impl.Table, bool) { return impl.StepRules(x, easyText) },
-		} {
+		for name, f := range allSteps(o, impl.ChoiceOf(x.Game, 0)) {
 			keepsTable(t, name, x, func(x impl.Table) impl.Table {
 				next, _ := f(x)
 				return next
